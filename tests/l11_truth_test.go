@@ -13,7 +13,7 @@ import (
 
 // Truth by plain words: what the tests hold the program's answers against.
 
-// The key of what is none of these is 0.
+// What is none of these has no key: 0 stands for it.
 var (
 	plainPrincipalKeys = map[int]int{0: 1, 1: 2, 2: 3, 3: 11, 4: 12, 5: 13}
 	plainServiceKeys   = map[int]int{0: 11, 1: 12, 2: 13}
@@ -68,6 +68,9 @@ func plainRoots(c impl.Config, log []impl.Event, key int) []int {
 		default:
 			keys[plainServiceKeys[e.Service]] = true
 		}
+	}
+	if keys[0] {
+		return nil
 	}
 	return slices.Sorted(maps.Keys(keys))
 }
@@ -374,6 +377,8 @@ func TestChainThatBreaks(t *testing.T) {
 			log[i].Kind, log[i].Evid = kind, log[i].Parent
 			checkChain(t, "a kind that is none", log, 104)
 			checkRoots(t, "a kind that is none", log, 104)
+			log[i].Service = 0
+			checkRoots(t, "a kind that is none, for a service", log, 104)
 		}
 		checkChain(t, "a kind that is none, alone", []impl.Event{{Kind: kind, Key: 7, Parent: 7, Evid: 7}}, 7)
 	}
@@ -381,7 +386,10 @@ func TestChainThatBreaks(t *testing.T) {
 		log := someLog()
 		log[0].Kind = kind
 		checkChain(t, "no login at the beginning", log, 104)
-		checkRoots(t, "no login at the beginning", log, 104)
+		for _, service := range []int{0, 10} {
+			log[0].Service = service
+			checkRoots(t, "no login at the beginning", log, 104)
+		}
 	}
 	// A key that stands twice is that of the first one.
 	log := append([]impl.Event{issue(0, 102, 55)}, someLog()...)
@@ -392,15 +400,19 @@ func TestChainThatBreaks(t *testing.T) {
 	checkChain(t, "the first one is a login", log, 104, 0, 4)
 }
 
-// ring has so many Events, the last one of them with the key 200; each one's Parent and Evid is the one ahead, that of the first is the last.
+// ring has so many Events, the last one of them with the key 200; each one's Parent and Evid is the one ahead, that of the first is the last. All their own keys are there.
 func ring(kind, count int) []impl.Event {
 	var log []impl.Event
+	service := 0
+	if kind == impl.EvRefer {
+		service = 10
+	}
 	for i := range count {
 		ahead := 200 - count + i
 		if i == 0 {
 			ahead = 200
 		}
-		log = append(log, impl.Event{Kind: kind, Key: 201 - count + i, Parent: ahead, Evid: ahead})
+		log = append(log, impl.Event{Kind: kind, Service: service, Key: 201 - count + i, Parent: ahead, Evid: ahead})
 	}
 	return log
 }
@@ -508,23 +520,65 @@ func TestRoots(t *testing.T) {
 	}
 }
 
-// Who is none has the key 0, as PrincipalKey, CentreKey and LinkKey say it.
-func TestRootsOfWhatIsNone(t *testing.T) {
-	for _, none := range []int{-1, -2, -3, 6, 7, 9, 13, 100, math.MinInt, math.MaxInt} {
-		checkRoots(t, "a By that is no principal", []impl.Event{login(none, 0, 101)}, 101, 0, 21)
-		checkRoots(t, "a Realm that is none", []impl.Event{login(0, none, 101)}, 101, 0, 1)
-		checkRoots(t, "neither", []impl.Event{login(none, none, 101)}, 101, 0)
-		checkRoots(t, "a Service that is none", []impl.Event{login(0, 0, 101), issue(none, 102, 101)}, 102, 0, 1, 21)
-		checkRoots(t, "in a user's name, a Service that is none", []impl.Event{login(0, 0, 101), delegate(none, 102, 101, 101)}, 102, 0, 1, 21)
-		checkRoots(t, "handed on to no centre", []impl.Event{login(0, 0, 101), refer(0, none, 102, 101)}, 102, 0, 1, 21)
-		checkRoots(t, "handed on by no realm", []impl.Event{login(0, 0, 101), refer(none, 11, 102, 101)}, 102, 0, 1, 21)
+// 0 is no key: where one of the keys is not there, a key hangs on nothing, and so does all that was asked for with it.
+func TestRootsWhereAKeyIsNotThere(t *testing.T) {
+	check := func(what string, log ...impl.Event) {
+		t.Helper()
+		last := log[len(log)-1].Key
+		checkRoots(t, what, log, last)
+		log = append(log, issue(0, 110, last), refer(0, 11, 111, last), delegate(0, 112, last, 101), issue(2, 113, 112))
+		for key := 110; key <= 113; key++ {
+			checkRoots(t, what+", asked on with it", log, key)
+		}
+	}
+	for _, none := range []int{-1, -2, -3, 6, 7, 9, 13, 100, math.MinInt, math.MinInt + 10, math.MaxInt} {
+		check("a By that is no principal", login(none, 0, 101))
+		check("a Realm that is none", login(0, none, 101))
+		check("neither", login(none, none, 101))
+		check("a Service that is none", login(0, 0, 101), issue(none, 102, 101))
+		check("in a user's name, a Service that is none", login(0, 0, 101), delegate(none, 102, 101, 101))
+		check("handed on to no centre", login(0, 0, 101), refer(0, none, 102, 101))
+		check("handed on by no realm", login(0, 0, 101), refer(none, 11, 102, 101))
 	}
 	for _, s := range []int{10, 11, 12, 3, 4, 5} {
-		checkRoots(t, "a centre is no service", []impl.Event{login(0, 0, 101), issue(s, 102, 101)}, 102, 0, 1, 21)
+		check("a centre or a principal is no service", login(0, 0, 101), issue(s, 102, 101))
+		check("in a user's name, a centre or a principal is no service", login(0, 0, 101), delegate(s, 102, 101, 101))
 	}
-	for s := range 3 {
-		checkRoots(t, "a service is no centre", []impl.Event{login(0, 0, 101), refer(1, s, 102, 101)}, 102, 0, 1, 21)
+	for s := range 6 {
+		check("a service or a principal is no centre", login(0, 0, 101), refer(1, s, 102, 101))
 	}
+	for _, r := range []int{3, 4, 5, 10, 11, 12} {
+		check("a realm past the last one, or a centre", login(0, r, 101))
+		check("handed on by a realm past the last one, or by a centre", login(0, 0, 101), refer(r, 11, 102, 101))
+	}
+}
+
+// Wherever it stands in what comes ahead, and nowhere else: neither behind the key, nor by Evid, nor in an Event with a key that stood already.
+func TestRootsWhereAKeyAheadIsNotThere(t *testing.T) {
+	for i := range 4 {
+		log := someLog()
+		log[i].Service = 55
+		if i == 0 {
+			// What a login is for does not count: its By does.
+			checkRoots(t, "a login for none", log, 104, 1, 13, 21, 32, 36)
+			log[i].By = 55
+		}
+		for at, whole := range [][]int{{1, 21}, {1, 21, 32}, {1, 21, 32, 36}, {1, 13, 21, 32, 36}} {
+			if at >= i {
+				whole = nil
+			}
+			checkRoots(t, "one key of several", log, 101+at, whole...)
+		}
+		checkRoots(t, "its Parents are whole", log, 107, 11, 12, 21)
+	}
+	log := append(someLog(), issue(55, 102, 101), login(55, 55, 101), refer(0, 55, 120, 101))
+	checkRoots(t, "others are not there", log, 104, 1, 13, 21, 32, 36)
+	log = append([]impl.Event{issue(55, 102, 101)}, someLog()...)
+	checkRoots(t, "the first one of two", log, 104)
+	// The Chain asks for no keys.
+	log = []impl.Event{login(55, 55, 101), refer(55, 55, 102, 101), issue(55, 103, 102), delegate(55, 104, 103, 103)}
+	checkChain(t, "no keys at all", log, 104, 0, 1, 2, 3)
+	checkRoots(t, "no keys at all", log, 104)
 }
 
 // Each log of two Events with few numbers, and many longer ones.
@@ -547,23 +601,36 @@ func TestAnyLog(t *testing.T) {
 		}
 	}
 	r := rand.New(rand.NewSource(111))
-	longest := 0
+	longest, whole, lacking := 0, 0, 0
 	for i := range 30000 {
 		log := make([]impl.Event, r.Intn(12))
 		for j := range log {
 			kind := []int{1, 2, 2, 3, 3, 4, 4, 4, r.Intn(7) - 1}[r.Intn(9)]
 			log[j] = impl.Event{Kind: kind, Realm: numberNear(r, 0, 2, 9), By: numberNear(r, 0, 5, 9), Service: []int{r.Intn(3), 10 + r.Intn(3), r.Intn(16) - 2}[r.Intn(3)], Key: 1 + r.Intn(12), Parent: 1 + r.Intn(12), Evid: 1 + r.Intn(12)}
+			if i%4 < 2 {
+				// One key in some that is not there takes all Roots away: in half of the logs most are there.
+				log[j].Service = numberNear(r, 0, 2, 9)
+				if kind == impl.EvRefer {
+					log[j].Service += 10
+				}
+			}
 			if i%2 == 0 && j > 0 {
 				log[j].Parent, log[j].Evid = log[r.Intn(j)].Key, log[r.Intn(j)].Key
 			}
 		}
 		for key := range 14 {
-			chain, _ := checkLog(t, "any log", c, log, key)
+			chain, roots := checkLog(t, "any log", c, log, key)
 			longest = max(longest, len(chain))
+			if len(roots) >= 4 {
+				whole++
+			}
+			if len(roots) == 0 && len(plainWayTo(log, key, false)) >= 3 {
+				lacking++
+			}
 		}
 	}
-	if longest < 6 {
-		t.Errorf("the longest Chain has %d Events", longest)
+	if longest < 6 || whole < 500 || lacking < 500 {
+		t.Errorf("the longest Chain has %d Events; four Roots or more have %d, and %d lack one", longest, whole, lacking)
 	}
 }
 
@@ -1030,6 +1097,16 @@ func TestSecret(t *testing.T) {
 	w.Log[0].Parent, w.Log = 0, append(w.Log, issue(0, 500, 499), impl.Event{Kind: 5, Key: 501}, delegate(0, 502, 502, w.Log[0].Key))
 	w.Known.Keys = []int{499, 500, 501, 502, 503}
 	checkSaid(t, "keys that hang on nothing", w, allTrue)
+	// So does one that a key is not there for, whatever leaked: nothing is asked of it, nor of what was asked for with it.
+	for _, e := range []impl.Event{login(6, 0, 500), login(0, 3, 500), issue(3, 500, 101), refer(0, 2, 500, 101), refer(3, 11, 500, 101), delegate(10, 500, 101, 101)} {
+		w = truthWorld(t)
+		e.Parent, w.Known.Keys = w.Log[0].Key, []int{500, 501}
+		w.Log = append(w.Log, e, issue(0, 501, 500))
+		for _, leaked := range [][]int{nil, {0}, {1}, {0, 11, 21}} {
+			w.Leaked = leaked
+			checkSaid(t, "a key that is not there", w, allTrue)
+		}
+	}
 	// By its Parent a key in a user's name hangs on who asked, not on the user.
 	w = truthWorld(t)
 	w.Known.Keys = []int{w.Log[5].Key}
